@@ -1,0 +1,112 @@
+"""Plaits: tuples (strands, word), and what can be made of them."""
+
+from loopwright.errors import NoPlait, NoRoom, NoStep
+
+MOST_STRANDS = 6
+MOST_LETTERS = 16
+
+
+def is_letter(strands, letter):
+    """Tell whether a whole number is a letter of so many strands."""
+    return 1 <= abs(letter) < strands
+
+
+def is_plait(plait):
+    """Tell whether a tuple of a whole number and a tuple of whole numbers is a plait."""
+    strands = plait[0]
+    word = plait[1]
+    if not 1 <= strands <= MOST_STRANDS or len(word) > MOST_LETTERS:
+        return False
+    return all([is_letter(strands, letter) for letter in word])
+
+
+def looked(plait):
+    """Tell how many letters a plait has; refuse what is no plait."""
+    # What is handed in may hold numbers too long to be written, so no refusal writes them.
+    if not is_plait(plait):
+        raise NoPlait("not a plait of 1 to 6 strands with up to 16 letters")
+    return len(plait[1])
+
+
+def contrary(word):
+    """Make the contrary of a word: from last to first, each letter's contrary."""
+    return tuple([-letter for letter in reversed(word)])
+
+
+def without_pairs(word):
+    """Take letters beside their contraries out of a word till there are none."""
+    kept = []
+    for letter in word:
+        if kept and kept[-1] == -letter:
+            kept.pop()
+        else:
+            kept.append(letter)
+    return tuple(kept)
+
+
+def behind(one, other):
+    """Put the other plait behind the one."""
+    letters = looked(one) + looked(other)
+    if one[0] != other[0]:
+        raise NoStep("the plaits have unlike numbers of strands")
+    if letters > MOST_LETTERS:
+        raise NoRoom("more than 16 letters would come")
+    return (one[0], one[1] + other[1])
+
+
+def turned(plait):
+    """Make the contrary of a plait."""
+    looked(plait)
+    return (plait[0], contrary(plait[1]))
+
+
+def mirrored(plait):
+    """Exchange each letter for its contrary, in the same order."""
+    looked(plait)
+    return (plait[0], tuple([-letter for letter in plait[1]]))
+
+
+def flipped_letter(strands, letter):
+    """Count a letter's number from the other side, its sign kept."""
+    if letter < 0:
+        return -(strands + letter)
+    return strands - letter
+
+
+def flipped(plait):
+    """Count each letter's number from the other side, its sign kept."""
+    looked(plait)
+    strands = plait[0]
+    return (strands, tuple([flipped_letter(strands, letter) for letter in plait[1]]))
+
+
+def shorter(plait):
+    """Take letters beside their contraries out of a plait till there are none."""
+    looked(plait)
+    return (plait[0], without_pairs(plait[1]))
+
+
+def often(plait, many):
+    """Put a plait so many times behind itself; below nought so many times its contrary."""
+    if looked(plait) * abs(many) > MOST_LETTERS:
+        raise NoRoom("more than 16 letters would come")
+    word = plait[1]
+    if many < 0:
+        word = contrary(word)
+    # Without letters there is nothing to put behind itself, and many may be too great to count up to.
+    if word:
+        word = word * abs(many)
+    return (plait[0], word)
+
+
+def order_of(plait):
+    """Tell to which place, counted from 0, the strand of each place comes."""
+    looked(plait)
+    strands = plait[0]
+    standing = list(range(strands))
+    for letter in plait[1]:
+        place = abs(letter)
+        strand = standing[place - 1]
+        standing[place - 1] = standing[place]
+        standing[place] = strand
+    return tuple([standing.index(strand) for strand in range(strands)])

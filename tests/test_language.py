@@ -1,0 +1,225 @@
+"""The form of the package's code: those of the rules L1 to L28 that a walk through its trees can tell."""
+
+import ast
+import builtins
+import re
+import unittest
+from pathlib import Path
+
+PACKAGE = Path(__file__).resolve().parent.parent / "loopwright"
+
+STATEMENTS = (
+    ast.Assign, ast.AugAssign, ast.AnnAssign, ast.If, ast.While, ast.For, ast.Return, ast.Break, ast.Continue, ast.Pass,
+    ast.Raise, ast.Try, ast.Expr, ast.FunctionDef, ast.ClassDef, ast.ImportFrom, ast.Import,
+)
+EXPRESSIONS = (
+    ast.Constant, ast.Name, ast.Attribute, ast.Subscript, ast.Slice, ast.Call, ast.BinOp, ast.UnaryOp, ast.BoolOp,
+    ast.Compare, ast.IfExp, ast.List, ast.Tuple, ast.Dict, ast.Set, ast.ListComp, ast.Lambda, ast.JoinedStr,
+    ast.FormattedValue,
+)
+ALLOWED_BUILTINS = set(
+    "len range enumerate zip min max sum abs sorted reversed int str bool list tuple dict set frozenset isinstance ord"
+    " repr any all divmod Exception ValueError TypeError KeyError IndexError LookupError ZeroDivisionError"
+    " ArithmeticError OverflowError RuntimeError NotImplementedError AttributeError StopIteration".split()
+)
+ALLOWED_METHODS = set(
+    "append clear copy count endswith extend find get index insert isalnum isalpha isdigit islower isspace isupper"
+    " items join keys ljust lower lstrip partition pop remove replace reverse rfind rjust rpartition rsplit rstrip setdefault"
+    " split splitlines startswith strip update upper values zfill bit_length".split()
+)
+WORDS_NOT_USED = re.compile(
+    r"\b(type|typing|typing_extensions|enum|Enum|IntEnum|StrEnum|Flag|IntFlag|Generic|Protocol|ABC|ABCMeta|namedtuple"
+    r"|NamedTuple|TypedDict|TYPE_CHECKING|abstractmethod)\b|dataclass|overload|contextmanager"
+)
+NAMES_NOT_USED = set(
+    "register mro elements open input version_info with_traceback add_note attrgetter breakpoint builtins compile"
+    " copyright credits delattr dir eval exec exit gc getattr globals hasattr help id importlib license locals"
+    " methodcaller os quit setattr super type vars".split()
+)
+METHODS_WITH_UNDERSCORES = {"__init__", "__eq__", "__repr__", "__str__", "__len__"}
+PLAIN_NAME = re.compile(r"[A-Za-z][A-Za-z0-9_]*")
+
+FILES = sorted(path for path in PACKAGE.rglob("*") if path.is_file() and "__pycache__" not in path.parts)
+
+
+def tree_of(path):
+    return ast.parse(path.read_text(encoding="ascii"))
+
+
+def all_nodes():
+    return [(f"{path.name}:{getattr(node, 'lineno', 0)}", node) for path in FILES for node in ast.walk(tree_of(path))]
+
+
+def imports_of(path):
+    """The package's files that one draws from, by their names without the ending."""
+    nodes = [node for node in ast.walk(tree_of(path)) if isinstance(node, ast.ImportFrom)]
+    return [node.module.split(".")[1] for node in nodes if node.module.startswith("loopwright.")]
+
+
+def bound_names(node):
+    """The names that a node binds."""
+    if isinstance(node, (ast.FunctionDef, ast.ClassDef)):
+        return [node.name]
+    if isinstance(node, ast.arg):
+        return [node.arg]
+    if isinstance(node, ast.Name) and isinstance(node.ctx, ast.Store):
+        return [node.id]
+    if isinstance(node, ast.ImportFrom):
+        return [alias.asname or alias.name for alias in node.names]
+    return []
+
+
+class FilesTest(unittest.TestCase):
+    """L1, L10, L14, L17."""
+
+    def test_only_plain_files(self):
+        self.assertTrue(FILES)
+        for path in FILES:
+            self.assertEqual(path.parent, PACKAGE)
+            self.assertRegex(path.name, r"\A([a-z][a-z0-9_]*|__init__|__main__)\.py\Z")
+            self.assertFalse(path.stem.startswith("test") or path.stem in dir(builtins), path)
+
+    def test_signs_and_sizes(self):
+        for path in FILES:
+            text = path.read_text(encoding="utf-8")
+            self.assertRegex(text, r"\A[ -~\n]*\Z", path)
+            self.assertIsNone(WORDS_NOT_USED.search(text), path)
+            rows = text.split("\n")
+            self.assertLessEqual(len(rows), 401, path)
+            self.assertLessEqual(max(len(row) for row in rows), 120, path)
+
+    def test_functions_are_short(self):
+        for place, node in all_nodes():
+            if isinstance(node, ast.FunctionDef):
+                self.assertLessEqual(node.end_lineno - node.lineno + 1, 40, place)
+
+    def test_each_file_begins_by_telling_what_it_is_for(self):
+        for path in FILES:
+            self.assertTrue(ast.get_docstring(tree_of(path)), path)
+
+
+class ImportsTest(unittest.TestCase):
+    """L2, L16."""
+
+    def test_from_the_very_file(self):
+        tops = {path.stem: tree_of(path).body for path in FILES}
+        for place, node in all_nodes():
+            if isinstance(node, ast.Import):
+                self.assertEqual((place.split(":")[0], [alias.name for alias in node.names]), ("__main__.py", ["sys"]))
+            if isinstance(node, ast.ImportFrom) and node.module != "__future__":
+                self.assertEqual(node.level, 0, place)
+                self.assertRegex(node.module, r"\Aloopwright\.[a-z0-9_]+\Z", place)
+                defined = [name for top in tops[node.module.split(".")[1]] for part in ast.walk(top)
+                           if not isinstance(part, ast.ImportFrom) for name in bound_names(part)]
+                for alias in node.names:
+                    self.assertIn(alias.name, defined, place)
+
+    def test_the_package_itself_draws_from_nothing(self):
+        self.assertEqual(imports_of(PACKAGE / "__init__.py"), [])
+
+    def test_no_two_files_draw_from_one_another(self):
+        left = {path.stem: set(imports_of(path)) for path in FILES}
+        while left:
+            ready = [name for name in left if not left[name] & set(left)]
+            self.assertTrue(ready, f"in a ring: {sorted(left)}")
+            for name in ready:
+                left.pop(name)
+
+
+class StatementsTest(unittest.TestCase):
+    """L4, L5, L6, L7, L20, L21."""
+
+    def test_kinds_of_nodes(self):
+        for place, node in all_nodes():
+            if isinstance(node, ast.stmt):
+                self.assertIsInstance(node, STATEMENTS, place)
+            if isinstance(node, ast.expr):
+                self.assertIsInstance(node, EXPRESSIONS, place)
+            if isinstance(node, ast.Constant):
+                self.assertIn(node.value.__class__, (int, str, bool, type(None)), place)
+            if isinstance(node, ast.BinOp):
+                self.assertNotIsInstance(node.op, (ast.Div, ast.MatMult), place)
+
+    def test_functions_and_classes(self):
+        for place, node in all_nodes():
+            if isinstance(node, (ast.FunctionDef, ast.ClassDef)):
+                self.assertEqual(node.decorator_list, [], place)
+            if isinstance(node, ast.arguments):
+                rest = (node.vararg, node.kwarg, node.kwonlyargs, node.posonlyargs)
+                self.assertEqual(rest, (None, None, [], []), place)
+            if isinstance(node, ast.ClassDef):
+                self.assertLessEqual(len(node.bases) + len(node.keywords), 1, place)
+                for part in node.body[1:] if ast.get_docstring(node) else node.body:
+                    self.assertIsInstance(part, (ast.FunctionDef, ast.Pass), place)
+
+    def test_narrower_forms(self):
+        for place, node in all_nodes():
+            if isinstance(node, ast.Assign):
+                self.assertEqual(len(node.targets), 1, place)
+            if isinstance(node, (ast.For, ast.While)):
+                self.assertEqual(node.orelse, [], place)
+            if isinstance(node, ast.Try):
+                self.assertEqual(node.finalbody, [], place)
+            if isinstance(node, ast.ListComp):
+                self.assertEqual(len(node.generators), 1, place)
+                self.assertLessEqual(len(node.generators[0].ifs), 1, place)
+            if isinstance(node, ast.FormattedValue):
+                self.assertIsInstance(node.value, ast.Name, place)
+                self.assertIsNone(node.format_spec, place)
+            if isinstance(node, ast.Compare):
+                for operator, side in zip(node.ops, node.comparators):
+                    if isinstance(operator, (ast.Is, ast.IsNot)):
+                        self.assertIsInstance(side, ast.Constant, place)
+                        self.assertIn(repr(side.value), ("None", "True", "False"), place)
+
+    def test_the_top_of_a_file(self):
+        for path in FILES:
+            for node in tree_of(path).body[1:]:
+                kinds = (ast.ImportFrom, ast.FunctionDef, ast.ClassDef, ast.Assign)
+                if path.name == "__main__.py":
+                    kinds = kinds + (ast.Import, ast.If)
+                self.assertIsInstance(node, kinds, path)
+
+
+class NamesTest(unittest.TestCase):
+    """L8, L12, L15, L17, L25."""
+
+    def test_names_that_are_bound(self):
+        for path in FILES:
+            imported = [name for node in ast.walk(tree_of(path)) if isinstance(node, ast.ImportFrom)
+                        for name in bound_names(node)]
+            for node in ast.walk(tree_of(path)):
+                for name in bound_names(node):
+                    if name not in METHODS_WITH_UNDERSCORES:
+                        self.assertRegex(name, PLAIN_NAME)
+                        self.assertNotIn(name, dir(builtins), path)
+                        self.assertNotIn(name, NAMES_NOT_USED, path)
+                    if not isinstance(node, ast.ImportFrom):
+                        self.assertNotIn(name, imported, path)
+
+    def test_names_of_a_top_are_bound_once(self):
+        for path in FILES:
+            names = []
+            for node in tree_of(path).body:
+                for part in node.targets if isinstance(node, ast.Assign) else [node]:
+                    names.extend(bound_names(part))
+            self.assertEqual(sorted(names), sorted(set(names)), path)
+
+    def test_names_of_pythons_own(self):
+        for place, node in all_nodes():
+            if isinstance(node, ast.Name) and isinstance(node.ctx, ast.Load) and node.id in dir(builtins):
+                own = ALLOWED_BUILTINS | ({"print", "__name__"} if place.startswith("__main__.py") else set())
+                self.assertIn(node.id, own, place)
+
+    def test_methods(self):
+        own = {part.name for _, node in all_nodes() if isinstance(node, ast.ClassDef) for part in node.body
+               if isinstance(part, ast.FunctionDef)}
+        for place, node in all_nodes():
+            if isinstance(node, ast.Call) and isinstance(node.func, ast.Attribute):
+                self.assertIn(node.func.attr, ALLOWED_METHODS | own, place)
+            if isinstance(node, ast.Attribute):
+                self.assertNotIn(node.attr, NAMES_NOT_USED | {"format", "format_map"}, place)
+
+
+if __name__ == "__main__":
+    unittest.main()
