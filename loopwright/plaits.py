@@ -11,13 +11,16 @@ def is_letter(strands, letter):
     return 1 <= abs(letter) < strands
 
 
-def is_plait(plait):
-    """Tell whether a tuple of a whole number and a tuple of whole numbers is a plait."""
-    strands = plait[0]
-    word = plait[1]
-    if not 1 <= strands <= MOST_STRANDS or len(word) > MOST_LETTERS:
+def is_word(strands, word, most):
+    """Tell whether there can be so many strands, and a word has only letters of theirs, at most so many."""
+    if not 1 <= strands <= MOST_STRANDS or len(word) > most:
         return False
     return all([is_letter(strands, letter) for letter in word])
+
+
+def is_plait(plait):
+    """Tell whether a tuple of a whole number and a tuple of whole numbers is a plait."""
+    return is_word(plait[0], plait[1], MOST_LETTERS)
 
 
 def looked(plait):
@@ -26,6 +29,14 @@ def looked(plait):
     if not is_plait(plait):
         raise NoPlait("not a plait of 1 to 6 strands with up to 16 letters")
     return len(plait[1])
+
+
+def looked_both(one, other):
+    """Tell how many letters two plaits have together; refuse what is no plait, then unlike strands."""
+    letters = looked(one) + looked(other)
+    if one[0] != other[0]:
+        raise NoStep("the plaits have unlike numbers of strands")
+    return letters
 
 
 def contrary(word):
@@ -44,12 +55,19 @@ def without_pairs(word):
     return tuple(kept)
 
 
+def exchanged(row, at):
+    """Exchange what stands in a tuple at a place, counted from 0, and at the next one."""
+    return row[:at] + (row[at + 1], row[at]) + row[at + 2:]
+
+
+def places_in(order):
+    """Tell at which place of an order each number stands, from 0 on."""
+    return tuple([order.index(number) for number in range(len(order))])
+
+
 def behind(one, other):
     """Put the other plait behind the one."""
-    letters = looked(one) + looked(other)
-    if one[0] != other[0]:
-        raise NoStep("the plaits have unlike numbers of strands")
-    if letters > MOST_LETTERS:
+    if looked_both(one, other) > MOST_LETTERS:
         raise NoRoom("more than 16 letters would come")
     return (one[0], one[1] + other[1])
 
@@ -102,11 +120,7 @@ def often(plait, many):
 def order_of(plait):
     """Tell to which place, counted from 0, the strand of each place comes."""
     looked(plait)
-    strands = plait[0]
-    standing = list(range(strands))
+    standing = tuple(range(plait[0]))
     for letter in plait[1]:
-        place = abs(letter)
-        strand = standing[place - 1]
-        standing[place - 1] = standing[place]
-        standing[place] = strand
-    return tuple([standing.index(strand) for strand in range(strands)])
+        standing = exchanged(standing, abs(letter) - 1)
+    return places_in(standing)

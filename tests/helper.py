@@ -1,5 +1,6 @@
 """What several test files need: plaits to try, and how to ask for refusals."""
 
+import inspect
 from itertools import product
 
 from loopwright import errors
@@ -8,7 +9,8 @@ CLASSES = [errors.NoPlait, errors.NoRoom, errors.NoStep, errors.NoTable, errors.
 
 HUGE = 10 ** 6000
 
-NO_PLAITS = [
+# No plaits, and no words of letters either, however long these may be.
+NO_WORDS = [
     (0, ()),
     (-1, ()),
     (7, ()),
@@ -33,11 +35,37 @@ NO_PLAITS = [
     (3, (HUGE,)),
     (3, (1, -HUGE)),
     (HUGE, (1, 2)),
+]
+
+NO_PLAITS = NO_WORDS + [
     (2, (1,) * 17),
     (2, (1, -1) * 9),
     (6, (5,) * 40),
     (1, (1,) * 17),
 ]
+
+# What comes of three letters by a step three, where p stands for 1 and q for 2.
+FORMS_OF_THREE = {
+    (1, 2, 1): (2, 1, 2),
+    (-1, -2, -1): (-2, -1, -2),
+    (1, 2, -1): (-2, 1, 2),
+    (-1, 2, 1): (2, 1, -2),
+    (1, -2, -1): (-2, -1, 2),
+    (-1, -2, 1): (2, -1, -2),
+}
+
+
+def all_threes():
+    """What comes of each three letters with which there is a step three."""
+    threes = {}
+    for p in range(1, 5):
+        for numbers in ({1: p, 2: p + 1, -1: -p, -2: -p - 1}, {1: p + 1, 2: p, -1: -p - 1, -2: -p}):
+            for before, after in FORMS_OF_THREE.items():
+                threes[tuple(numbers[x] for x in before)] = tuple(numbers[x] for x in after)
+    return threes
+
+
+THREES = all_threes()
 
 
 def letters_of(strands):
@@ -70,6 +98,12 @@ def all_plaits():
     return small_plaits() + long_plaits()
 
 
+def arguments_are(case, module, wanted):
+    """Look that a module has functions with just these names of arguments."""
+    for name, arguments in wanted.items():
+        case.assertEqual(list(inspect.signature(getattr(module, name)).parameters), arguments, name)
+
+
 def refused(case, wanted, call, *values):
     """Look that a call is refused with just the class that is wanted."""
     try:
@@ -78,6 +112,89 @@ def refused(case, wanted, call, *values):
         case.assertIs(type(error), wanted, values)
         return
     case.fail(f"{call.__name__} does not refuse")
+
+
+def refused_of_two(case, call, *more):
+    """Look that a call of two plaits refuses what is no plait, then unlike numbers of strands."""
+    for wrong in NO_PLAITS:
+        for good in [(1, ()), (3, (1, 2)), (6, (5,) * 16)]:
+            refused(case, errors.NoPlait, call, wrong, good, *more)
+            refused(case, errors.NoPlait, call, good, wrong, *more)
+        refused(case, errors.NoPlait, call, wrong, wrong, *more)
+    for one in range(1, 7):
+        for other in range(1, 7):
+            if one != other:
+                refused(case, errors.NoStep, call, (one, ()), (other, ()), *more)
+    refused(case, errors.NoStep, call, (3, (1, 2)), (4, (1, 2)), *more)
+    refused(case, errors.NoStep, call, (6, (5,) * 16), (5, (4,) * 16), *more)
+
+
+def plainly_reduced(word):
+    """Reduce a free word from its end on: another order than the program's."""
+    kept = []
+    for letter in reversed(word):
+        if kept[-1:] == [-letter]:
+            del kept[-1]
+        else:
+            kept.append(letter)
+    return tuple(reversed(kept))
+
+
+def images_of_letter(strands, letter):
+    images = {j: (j,) for j in range(1, strands + 1)}
+    i = abs(letter)
+    if letter > 0:
+        images.update({i: (i, i + 1, -i), i + 1: (i,)})
+    else:
+        images.update({i: (i + 1,), i + 1: (-(i + 1), i, i + 1)})
+    return images
+
+
+def plain_images(strands, word):
+    """What a word makes of all letters, found from its last letter to its first: another way than the program's."""
+    images = {j: (j,) for j in range(1, strands + 1)}
+    for letter in reversed(word):
+        first = images_of_letter(strands, letter)
+        behind = {**images, **{-j: tuple(-x for x in reversed(images[j])) for j in images}}
+        images = {j: plainly_reduced(sum((behind[x] for x in first[j]), ())) for j in first}
+    return [images[j] for j in sorted(images)]
+
+
+def plain_steps(strands, word, most):
+    """All steps that can be done with a word, each with the word that comes of it, up to so many letters."""
+    found = []
+    for at in range(len(word) - 1):
+        if abs(abs(word[at]) - abs(word[at + 1])) > 1:
+            found.append((("far", at), word[:at] + word[at:at + 2][::-1] + word[at + 2:]))
+    for at in range(len(word) - 2):
+        three = THREES.get(word[at:at + 3])
+        if three:
+            found.append((("three", at), word[:at] + three + word[at + 3:]))
+    for at in range(len(word) - 1):
+        if word[at] + word[at + 1] == 0:
+            found.append((("out", at), word[:at] + word[at + 2:]))
+    if len(word) + 2 <= most:
+        for at in range(len(word) + 1):
+            for letter in letters_of(strands):
+                found.append((("in", at, letter), word[:at] + (letter, -letter) + word[at:]))
+    return found
+
+
+def walk_from(strands, word, seed, many, most):
+    """A row of so many steps with a word, chosen by a fixed rule, each with the word that comes of it."""
+    row = []
+    for _ in range(many):
+        found = plain_steps(strands, word, most)
+        # Steps that exchange letters are few among those that put them in, and so are taken by turns.
+        rare = [step for step in found if step[0][0] in ("far", "three")]
+        seed = (seed * 1103515245 + 12345) % 2 ** 31
+        if seed // 2 ** 16 % 3 and rare:
+            found = rare
+        if not found:
+            break
+        row.append(found[seed // 2 ** 8 % len(found)])
+        word = row[-1][1]
+    return row
 
 
 def plain(case, value):

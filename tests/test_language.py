@@ -36,6 +36,12 @@ NAMES_NOT_USED = set(
     " copyright credits delattr dir eval exec exit gc getattr globals hasattr help id importlib license locals"
     " methodcaller os quit setattr super type vars".split()
 )
+KEYWORDS = {
+    "sorted": {"key", "reverse"}, "min": {"key", "default"}, "max": {"key", "default"}, "sum": {"start"},
+    "enumerate": {"start"}, "zip": {"strict"},
+}
+WALKED_AT_ONCE = ("zip", "enumerate", "reversed", "range", "items", "keys", "values")
+WALKERS = ("list", "tuple", "dict", "sorted", "sum", "any", "all", "enumerate", "zip")
 METHODS_WITH_UNDERSCORES = {"__init__", "__eq__", "__repr__", "__str__", "__len__"}
 PLAIN_NAME = re.compile(r"[A-Za-z][A-Za-z0-9_]*")
 
@@ -54,6 +60,22 @@ def imports_of(path):
     """The package's files that one draws from, by their names without the ending."""
     nodes = [node for node in ast.walk(tree_of(path)) if isinstance(node, ast.ImportFrom)]
     return [node.module.split(".")[1] for node in nodes if node.module.startswith("loopwright.")]
+
+
+def called(node):
+    """The name by which a call calls, of a function or a method."""
+    if isinstance(node, ast.Call):
+        return node.func.id if isinstance(node.func, ast.Name) else getattr(node.func, "attr", None)
+    return None
+
+
+def walked_on_the_spot(node):
+    """What stands in a node in a place where it is walked on the spot."""
+    if isinstance(node, (ast.For, ast.comprehension)):
+        return [node.iter]
+    if called(node) in WALKERS or (called(node) in ("min", "max", "join") and len(node.args) == 1):
+        return node.args[:1]
+    return []
 
 
 def bound_names(node):
@@ -219,6 +241,30 @@ class NamesTest(unittest.TestCase):
                 self.assertIn(node.func.attr, ALLOWED_METHODS | own, place)
             if isinstance(node, ast.Attribute):
                 self.assertNotIn(node.attr, NAMES_NOT_USED | {"format", "format_map"}, place)
+
+
+class CallsTest(unittest.TestCase):
+    """L22, L23, L27."""
+
+    def test_keywords_at_pythons_own(self):
+        for place, node in all_nodes():
+            if isinstance(node, ast.Call) and (called(node) in ALLOWED_BUILTINS or isinstance(node.func, ast.Attribute)):
+                given = {word.arg for word in node.keywords}
+                self.assertLessEqual(given, KEYWORDS.get(called(node), set()), place)
+
+    def test_walked_at_once(self):
+        walked = [part for _, node in all_nodes() for part in walked_on_the_spot(node)]
+        places = [ast.dump(part, include_attributes=True) for part in walked]
+        for place, node in all_nodes():
+            if called(node) in WALKED_AT_ONCE:
+                self.assertIn(ast.dump(node, include_attributes=True), places, place)
+
+    def test_numbers_and_texts(self):
+        for place, node in all_nodes():
+            if isinstance(node, ast.Constant) and isinstance(node.value, str):
+                self.assertNotIn("%", node.value, place)
+            if isinstance(node, ast.BinOp) and isinstance(node.op, ast.Pow):
+                self.assertIsInstance(node.right, ast.Constant, place)
 
 
 if __name__ == "__main__":

@@ -1,10 +1,9 @@
 """Points 1 and 14, and the interface's section loopwright/notes.py."""
 
-import inspect
 import re
 import unittest
 
-from helper import HUGE, NO_PLAITS, all_plaits, plain, refused
+from helper import HUGE, NO_PLAITS, all_plaits, arguments_are, plain, refused
 from loopwright import notes
 from loopwright.errors import BadNote, NoPlait
 from loopwright.notes import read, shown
@@ -24,8 +23,7 @@ def read_by_pattern(text):
 
 class InterfaceTest(unittest.TestCase):
     def test_names_and_arguments(self):
-        for name, arguments in {"shown": ["plait"], "read": ["text"]}.items():
-            self.assertEqual(list(inspect.signature(getattr(notes, name)).parameters), arguments)
+        arguments_are(self, notes, {"shown": ["plait"], "read": ["text"]})
 
 
 class ShownTest(unittest.TestCase):

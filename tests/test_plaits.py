@@ -1,9 +1,8 @@
 """Points 1, 10, 11, 12 and 13, and the interface's section loopwright/plaits.py."""
 
-import inspect
 import unittest
 
-from helper import HUGE, NO_PLAITS, all_plaits, long_plaits, plain, refused, small_plaits
+from helper import HUGE, NO_PLAITS, all_plaits, arguments_are, long_plaits, plain, refused, small_plaits
 from loopwright import plaits
 from loopwright.errors import NoPlait, NoRoom, NoStep
 from loopwright.plaits import behind, flipped, looked, mirrored, often, order_of, shorter, turned
@@ -32,12 +31,10 @@ def place_reached(plait, place):
 
 class InterfaceTest(unittest.TestCase):
     def test_names_and_arguments(self):
-        wanted = {
+        arguments_are(self, plaits, {
             "looked": ["plait"], "behind": ["one", "other"], "turned": ["plait"], "mirrored": ["plait"],
             "flipped": ["plait"], "shorter": ["plait"], "often": ["plait", "many"], "order_of": ["plait"],
-        }
-        for name, arguments in wanted.items():
-            self.assertEqual(list(inspect.signature(getattr(plaits, name)).parameters), arguments)
+        })
 
 
 class LookedTest(unittest.TestCase):
