@@ -9,6 +9,9 @@ CLASSES = [errors.NoPlait, errors.NoRoom, errors.NoStep, errors.NoTable, errors.
 
 HUGE = 10 ** 6000
 
+# Whole numbers that are far from any that is asked for: of some thirty figures, and of more than Python writes.
+FAR_NUMBERS = [10 ** 30 + 57, -10 ** 30 - 57, 2 ** 100, HUGE, -HUGE]
+
 # No plaits, and no words of letters either, however long these may be.
 NO_WORDS = [
     (0, ()),
@@ -42,6 +45,48 @@ NO_PLAITS = NO_WORDS + [
     (2, (1, -1) * 9),
     (6, (5,) * 40),
     (1, (1,) * 17),
+]
+
+# Plaits that are the same.
+SAME = [
+    ((1, ()), (1, ())),
+    ((2, (1, -1)), (2, ())),
+    ((2, (-1, 1)), (2, ())),
+    ((4, (1, 3)), (4, (3, 1))),
+    ((4, (1, -3)), (4, (-3, 1))),
+    ((6, (-1, -5)), (6, (-5, -1))),
+    ((3, (1, 2, 1)), (3, (2, 1, 2))),
+    ((3, (-1, -2, -1)), (3, (-2, -1, -2))),
+    ((6, (4, 5, 4)), (6, (5, 4, 5))),
+    ((3, (1, 2, -1)), (3, (-2, 1, 2))),
+    ((3, (1, 2, 1, 1, 2, 1, 1)), (3, (1, 1, 2, 1, 1, 2, 1))),
+    ((3, (1, 2) * 3 + (2,)), (3, (2,) + (1, 2) * 3)),
+    ((4, (1, 2, 3) * 4 + (-2,)), (4, (-2,) + (3, 2, 1) * 4)),
+]
+
+# Plaits that are not the same; where it is short, also what tells them apart.
+UNLIKE = [
+    ((2, (1,)), (2, ()), (1, (1, 2, -1), (1,))),
+    ((2, ()), (2, (1,)), (1, (1,), (1, 2, -1))),
+    ((2, (1,)), (2, (-1,)), (1, (1, 2, -1), (2,))),
+    ((3, (2,)), (3, ()), (2, (2, 3, -2), (2,))),
+    ((6, (5,)), (6, (-5,)), (5, (5, 6, -5), (6,))),
+    ((6, (-5, -5)), (6, ()), (5, (-6, 5, 6), (5,))),
+    ((3, (1, 2)), (3, (2, 1)), (1, (1, 2, 3, -2, -1), (1, 2, -1))),
+    ((3, (1, 1, 2, 2)), (3, (2, 2, 1, 1)), None),
+    ((3, (1, -2, 1)), (3, (-2, 1, -2)), None),
+    ((3, (1, -2, 1)), (3, (2, -1, 2)), None),
+    ((4, (1, 2, -3)), (4, (-3, 2, 1)), None),
+    ((3, (1, -2) * 8), (3, (-2, 1) * 8), None),
+    ((6, (5,) * 16), (6, (5,) * 15), None),
+]
+
+# Primes, and plaits with as many more rows of colours that come back by numbers round them.
+BY_GREAT_PRIMES = [
+    (97, (3, (1, -2, 1, 1, -2, 1, -2, 1, -2, -2, -2, -2, -2, 1))),
+    (89, (3, (-2, 1, 1, 1, -2, 1, -2, 1, -2, -2, 1, 1, 1, 2))),
+    (83, (3, (1, -2, -2, -2, -2, 1, 2, -2, 1, 1, 1, -2, -2, -2))),
+    (79, (3, (-2, 1, 1, -2, 1, 1, -2, 1, 1, 1, 1, 1, -2))),
 ]
 
 # What comes of three letters by a step three, where p stands for 1 and q for 2.
@@ -195,6 +240,51 @@ def walk_from(strands, word, seed, many, most):
         row.append(found[seed // 2 ** 8 % len(found)])
         word = row[-1][1]
     return row
+
+
+def plain_moves(plait):
+    """All moves that can be done with a plait, each with the plait that comes of it, by what point 52 says."""
+    strands, word = plait
+    found = [(("flip",), (strands, tuple((strands - abs(x)) * (1 if x > 0 else -1) for x in word)))]
+    if word:
+        found.append((("round",), (strands, word[1:] + word[:1])))
+        found.append((("back",), (strands, word[-1:] + word[:-1])))
+    if strands < 6 and len(word) < 16:
+        found.extend([(("more", sign), (strands + 1, word + (sign * strands,))) for sign in (1, -1)])
+    if [abs(x) for x in word].count(strands - 1) == 1 and abs(word[-1]) == strands - 1:
+        found.append((("less",), (strands - 1, word[:-1])))
+    found.extend([(("step", step), (strands, led)) for step, led in plain_steps(strands, word, 16)])
+    return found
+
+
+def kind_of_move(move):
+    """The first word of a move; of a step, that of the step."""
+    return move[1][0] if move[0] == "step" else move[0]
+
+
+def walk_moves(plait, seed, many):
+    """A row of so many moves with a plait, chosen by a fixed rule, each with the plait that comes of it."""
+    row = []
+    for _ in range(many):
+        found = plain_moves(plait)
+        # Kinds are chosen first, since there are by far the most moves that put letters in.
+        kinds = sorted({kind_of_move(move) for move, _ in found})
+        seed = (seed * 1103515245 + 12345) % 2 ** 31
+        found = [pair for pair in found if kind_of_move(pair[0]) == kinds[seed // 2 ** 16 % len(kinds)]]
+        row.append(found[seed // 2 ** 8 % len(found)])
+        plait = row[-1][1]
+    return row
+
+
+def closed_plaits():
+    """Plaits of all numbers of strands, with 0 to 16 letters, that close to one piece and to more."""
+    few = [(strands, ()) for strands in range(1, 7)] + [(2, (1,) * many) for many in range(1, 17)]
+    few += [
+        (2, (-1,)), (3, (1, -2, 1, -2)), (3, (1, 1)), (3, (-1, 2) * 8), (4, (1, 3)), (4, (1, -2, 3, -2) * 4), (5, (4,)),
+        (5, (1, 2, 3, 4) * 3), (6, (1, 3, 5, 1, 3, 5)), (6, (1, -2, 3, -4, 5)), (6, (5,) * 16), (6, (1, 2, 3, 4, 5) * 3),
+        (4, (1, 2, -3, -3, -2, 1, 2, 1)), (4, (1, 1, -2, 3, -2, 3, 3)),
+    ]
+    return few + long_plaits()[::6]
 
 
 def plain(case, value):

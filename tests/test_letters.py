@@ -3,8 +3,8 @@
 import unittest
 
 from helper import (
-    HUGE, NO_PLAITS, all_plaits, arguments_are, letters_of, long_plaits, plain, plain_images, plainly_reduced, refused,
-    refused_of_two, small_plaits, walk_from,
+    HUGE, NO_PLAITS, SAME, UNLIKE, all_plaits, arguments_are, letters_of, long_plaits, plain, plain_images,
+    plainly_reduced, refused, refused_of_two, small_plaits, walk_from,
 )
 from loopwright import letters
 from loopwright.errors import NoNumber, NoPlait
@@ -162,40 +162,6 @@ class WholeTest(unittest.TestCase):
                 self.assertEqual(len(word), 2 * half + 1)
                 self.assertEqual(word[half], order_of(plait)[j - 1] + 1)
                 self.assertEqual(word[half + 1:], tuple(-x for x in reversed(word[:half])))
-
-
-SAME = [
-    ((1, ()), (1, ())),
-    ((2, (1, -1)), (2, ())),
-    ((2, (-1, 1)), (2, ())),
-    ((4, (1, 3)), (4, (3, 1))),
-    ((4, (1, -3)), (4, (-3, 1))),
-    ((6, (-1, -5)), (6, (-5, -1))),
-    ((3, (1, 2, 1)), (3, (2, 1, 2))),
-    ((3, (-1, -2, -1)), (3, (-2, -1, -2))),
-    ((6, (4, 5, 4)), (6, (5, 4, 5))),
-    ((3, (1, 2, -1)), (3, (-2, 1, 2))),
-    ((3, (1, 2, 1, 1, 2, 1, 1)), (3, (1, 1, 2, 1, 1, 2, 1))),
-    ((3, (1, 2) * 3 + (2,)), (3, (2,) + (1, 2) * 3)),
-    ((4, (1, 2, 3) * 4 + (-2,)), (4, (-2,) + (3, 2, 1) * 4)),
-]
-
-# One after the other: the plaits, and what tells them apart.
-UNLIKE = [
-    ((2, (1,)), (2, ()), (1, (1, 2, -1), (1,))),
-    ((2, ()), (2, (1,)), (1, (1,), (1, 2, -1))),
-    ((2, (1,)), (2, (-1,)), (1, (1, 2, -1), (2,))),
-    ((3, (2,)), (3, ()), (2, (2, 3, -2), (2,))),
-    ((6, (5,)), (6, (-5,)), (5, (5, 6, -5), (6,))),
-    ((6, (-5, -5)), (6, ()), (5, (-6, 5, 6), (5,))),
-    ((3, (1, 2)), (3, (2, 1)), (1, (1, 2, 3, -2, -1), (1, 2, -1))),
-    ((3, (1, 1, 2, 2)), (3, (2, 2, 1, 1)), None),
-    ((3, (1, -2, 1)), (3, (-2, 1, -2)), None),
-    ((3, (1, -2, 1)), (3, (2, -1, 2)), None),
-    ((4, (1, 2, -3)), (4, (-3, 2, 1)), None),
-    ((3, (1, -2) * 8), (3, (-2, 1) * 8), None),
-    ((6, (5,) * 16), (6, (5,) * 15), None),
-]
 
 
 class SameTest(unittest.TestCase):
