@@ -243,6 +243,57 @@ class NamesTest(unittest.TestCase):
                 self.assertNotIn(node.attr, NAMES_NOT_USED | {"format", "format_map"}, place)
 
 
+class ClassesTest(unittest.TestCase):
+    """L15, L18, L19, L24, L26, L28."""
+
+    def test_methods_and_values_of_objects(self):
+        classes = [node for _, node in all_nodes() if isinstance(node, ast.ClassDef)]
+        methods = [part.name for node in classes for part in node.body if isinstance(part, ast.FunctionDef)]
+        values = {node.attr for _, node in all_nodes() if isinstance(node, ast.Attribute) and isinstance(node.ctx, ast.Store)}
+        pythons = {name for kind in (str, int, list, dict, set, bytes) for name in dir(kind)}
+        self.assertFalse(set(methods) & values)
+        self.assertFalse((set(methods) - METHODS_WITH_UNDERSCORES | values) & pythons)
+        for node in classes:
+            names = [part.name for part in node.body if isinstance(part, ast.FunctionDef)]
+            self.assertEqual(sorted(names), sorted(set(names)), node.name)
+
+    def test_values_are_given_to_objects_alone(self):
+        for place, node in all_nodes():
+            if isinstance(node, ast.Attribute) and isinstance(node.ctx, ast.Store):
+                self.assertIsInstance(node.value, ast.Name, place)
+                self.assertEqual(node.value.id, "self", place)
+            if isinstance(node, ast.FunctionDef) and node.name == "__init__":
+                self.assertFalse([part for part in ast.walk(node) if isinstance(part, ast.Return)], place)
+
+    def test_refusals_are_taken_by_name(self):
+        own = [node.name for node in tree_of(PACKAGE / "errors.py").body if isinstance(node, ast.ClassDef)]
+        for place, node in all_nodes():
+            if isinstance(node, ast.ExceptHandler):
+                kinds = node.type.elts if isinstance(node.type, ast.Tuple) else [node.type]
+                for kind in kinds:
+                    self.assertIn(kind.id, own + ["KeyError", "ValueError", "IndexError"], place)
+            if isinstance(node, ast.Raise):
+                self.assertIn(called(node.exc), own, place)
+
+    def test_lists_and_dicts_of_a_top(self):
+        for path in FILES:
+            for node in tree_of(path).body:
+                if isinstance(node, ast.Assign):
+                    inner = list(ast.walk(node.value))[1:]
+                    self.assertFalse([part for part in inner if isinstance(part, (ast.List, ast.Dict))], path)
+                    self.assertFalse([part for part in [node.value] + inner if isinstance(part, (ast.Set, ast.Call))], path)
+
+    def test_sets_are_not_kept(self):
+        nodes = [node for _, node in all_nodes()]
+        beside = [part for node in nodes if isinstance(node, ast.Compare) for part in [node.left] + node.comparators]
+        beside += [part for node in nodes if called(node) in ("len", "sorted") for part in node.args]
+        places = [ast.dump(part, include_attributes=True) for part in beside]
+        for place, node in all_nodes():
+            if called(node) == "set":
+                self.assertIn(ast.dump(node, include_attributes=True), places, place)
+            self.assertNotIsInstance(node, ast.Set, place)
+
+
 class CallsTest(unittest.TestCase):
     """L22, L23, L27."""
 
